@@ -1,0 +1,1 @@
+"""Clockwright: a hardware tool chain."""
