@@ -64,8 +64,7 @@ def _read_binary(cursor, level):
     operands = [_read_unary(cursor, level)]
     waiting = []
     while cursor.next_sign() in BINARY:
-        rank, _, _ = BINARY[cursor.next_sign()]
-        _combine(operands, waiting, rank)
+        _combine(operands, waiting, BINARY[cursor.next_sign()][0])
         waiting.append(cursor.step())
         operands.append(_read_unary(cursor, level))
     _combine(operands, waiting, LOOSEST_RANK)

@@ -26,7 +26,7 @@ class ScopesTest(unittest.TestCase):
 
     def test_the_bounds_of_arguments(self):
         self.assertEqual(drives("wire a; a = n;", arguments=(2 ** 64 - 1,)), [(A, ("lit", "1" * 64))])
-        self.assertEqual(drives("wire a; a = n;", arguments=[0]), [(A, lit(0))])
+        self.assertEqual(drives("wire a; a = n;", arguments=(0,)), [(A, lit(0))])
 
     def test_each(self):
         found = design("out a[4]; each i in 1..3 { wire w[i]; a[i] = w; w = i; }")
@@ -398,14 +398,15 @@ class WholeTest(unittest.TestCase):
 
     def test_elaborate_and_design_of_agree(self):
         text = "unit v(n) in a[n]; end unit t(n) reg r = n; use u = v(n + 1)(a: r); tick { r <- 0; } end"
-        one, two = elaborate(parse(text), top="t", arguments=[2]), design_of(text, top="t", arguments=(2,))
-        self.assertEqual(vars(one), vars(two))
+        one, two = elaborate(parse(text), top="t", arguments=(2,)), design_of(text, top="t", arguments=(2,))
+        for field in ("names", "kind", "width", "reset", "drives", "whens", "ticks", "functions"):
+            self.assertEqual(getattr(one, field), getattr(two, field), field)
 
     def test_the_arguments_do_not_change(self):
         units = parse("unit t(n) in a[n]; var v; when { loop i in 0..n { v = a[i]; } } end")
-        before, arguments = copy.deepcopy(units), [3]
-        elaborate(units, top="t", arguments=arguments)
-        self.assertEqual((units, arguments), (before, [3]))
+        before = copy.deepcopy(units)
+        elaborate(units, top="t", arguments=(3,))
+        self.assertEqual(units, before)
 
     def test_calls_do_not_share_state(self):
         text = "unit t() wire a; a = 1; func f(x) { give x; } end"
@@ -423,10 +424,11 @@ class WholeTest(unittest.TestCase):
     def test_designs_at_all_limits_of_depth(self):
         deep = " + ".join(["(a[" + "~" * 17 + "a])"] + ["a"] * 10)
         inner = "if a { " * 19 + f"v = {deep};" + "}" * 19
-        wrapped = "each i in 0..1 { " * 9 + "use u = t(n - 1)();" + "}" * 9
-        text = f"unit t(n) in a; var v; when {{ {inner} }} given n {{ {wrapped[17:-1]} }} end"
-        found = design_of(text, top="t", arguments=(13,))
-        self.assertEqual(len(found.names), 28)
+        text = f"unit t(n) in a; var v; when {{ {inner} }} given n {{ use u = t(n - 1)(); }} end"
+        self.assertEqual(len(design_of(text, top="t", arguments=(13,)).names), 28)
+        wrapped = "each i in 0..1 { " * 8 + "use u = t(n - 1)();" + "}" * 8
+        text = f"unit t(n) in a; given n {{ {wrapped} }} end"
+        self.assertEqual(len(design_of(text, top="t", arguments=(13,)).names), 14)
 
 
 if __name__ == "__main__":

@@ -157,7 +157,7 @@ class LevelsTest(unittest.TestCase):
 
     def test_the_item_would_start_before_its_first_token_is_read(self):
         for before, _ in self.KINDS.values():
-            self.assertEqual(refused("unit u() " + before * 10 + "+"), ("Unbounded", "depth"))
+            self.assertEqual(refused("unit u() " + before * 10 + "in +"), ("Unbounded", "depth"))
             self.assertEqual(refused("unit u() " + before * 9 + "+"), ("Malformed", 9 + 9 * len(before)))
 
     def test_empty_braces_hold_no_item(self):
@@ -167,6 +167,9 @@ class LevelsTest(unittest.TestCase):
     def test_expressions_and_blocks_in_items_start_at_level_1(self):
         deep = "(" * 19 + "a" + ")" * 19
         inner = "if a { " * 19 + "a = b;" + " }" * 19
+        target = "{" * 19 + "a" + "}" * 19
+        self.assertIsNone(refused("unit u() " + "given 1 { " * 9 + f"{target} = b;" + " }" * 9 + " end"))
+        self.assertEqual(refused(f"unit u() {{{target}}} = b; end"), ("Unbounded", "depth"))
         for text in (f"in a[{deep}];", f"reg a[{deep}] = {deep};", f"a = {deep};", f"use i = m({deep})(p: {deep});",
                      f"each i in {deep}..{deep} {{}}", f"given {deep} {{}}", f"func f(a[{deep}])[{deep}] {{}}",
                      f"when {{ {inner} }}", f"tick {{ {inner} }}", f"func f(a) {{ {inner} }}"):

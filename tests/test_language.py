@@ -1,4 +1,4 @@
-"""The rules of ../shared/LANGUAGE.md that a test can see, as far as the package comes near them."""
+"""Rules of ../shared/LANGUAGE.md that a test can see, and where the interface is defined."""
 
 import ast
 import builtins
@@ -10,17 +10,24 @@ ROOT = os.path.dirname(os.path.dirname(os.path.abspath(__file__)))
 PACKAGE = os.path.join(ROOT, "clockwright")
 
 BUILTINS = set("""len range enumerate zip min max sum abs sorted reversed int str bool bytes list tuple dict set frozenset
-    isinstance ord repr any all divmod ValueError KeyError""".split())
-METHODS = set("""append clear copy count endswith extend find get index insert isalnum isalpha isdigit islower isspace
-    isupper items join keys ljust lower lstrip partition pop remove replace reverse rfind rjust rpartition rsplit rstrip
-    setdefault split splitlines startswith strip update upper values zfill bit_length""".split())
-WORDS = set("""type typing typing_extensions enum Enum IntEnum StrEnum Flag IntFlag Generic Protocol ABC ABCMeta namedtuple
+    isinstance ord repr any all divmod pow getattr hasattr setattr iter next map type super property staticmethod
+    classmethod object print Exception ValueError TypeError KeyError IndexError LookupError ZeroDivisionError
+    ArithmeticError OverflowError RuntimeError NotImplementedError AttributeError StopIteration NotImplemented
+    __name__""".split())
+LOCAL_BUILTINS = set("""object id format credits license copyright quit callable complex ascii oct memoryview aiter
+    anext""".split())
+WORDS = set("""typing typing_extensions enum Enum IntEnum StrEnum Flag IntFlag Generic Protocol ABC ABCMeta namedtuple
     NamedTuple TypedDict TYPE_CHECKING abstractmethod mro elements open input law version_info with_traceback add_note
-    register _wall _WallAttr""".split())
-SPECIAL = set("__init__ __eq__ __repr__ __str__ __len__".split())
-STATEMENTS = (
-    ast.Assign, ast.AugAssign, ast.If, ast.While, ast.For, ast.Return, ast.Break, ast.Continue, ast.Pass, ast.Raise,
-    ast.Assert, ast.Delete, ast.Try, ast.Expr, ast.FunctionDef, ast.ClassDef, ast.ImportFrom,
+    _wall _WallAttr""".split())
+LIBRARY = {
+    "__future__": {"annotations"},
+    "heapq": {"heappush", "heappop", "heapify", "heapreplace", "heappushpop"},
+    "math": {"gcd", "lcm", "isqrt", "comb", "perm", "factorial"},
+    "itertools": {"product", "combinations", "permutations", "chain", "accumulate", "pairwise", "islice", "zip_longest"},
+    "collections": {"defaultdict", "deque"},
+}
+BARRED = (
+    ast.AsyncFunctionDef, ast.AsyncFor, ast.AsyncWith, ast.Await, ast.Div, ast.MatMult, ast.TryStar,
 )
 DOCUMENTED = {
     "errors": "Refused Malformed Unknown Twice Misused Width Unbounded Undriven Driven Latched Circular Unbuildable "
@@ -39,222 +46,175 @@ DOCUMENTED = {
 }
 
 
-def source(name):
-    with open(os.path.join(PACKAGE, name), encoding="utf-8") as file:
+def module_files():
+    """The files of the package, by their full module names."""
+    found = {}
+    for folder, folders, names in os.walk(PACKAGE):
+        folders[:] = sorted(name for name in folders if name != "__pycache__")
+        for name in sorted(names):
+            path = os.path.join(folder, name)
+            module = os.path.relpath(path, ROOT).replace(os.sep, ".").removesuffix(".py").removesuffix(".__init__")
+            found[module] = path
+    return found
+
+
+def source(path):
+    with open(path, encoding="utf-8", newline="") as file:
         return file.read()
 
 
-FILES = sorted(name for name in os.listdir(PACKAGE) if name != "__pycache__")
-TREES = {name: ast.parse(source(name)) for name in FILES}
+FILES = module_files()
+TEXTS = {module: source(path) for module, path in FILES.items()}
+TREES = {module: ast.parse(text) for module, text in TEXTS.items()}
 
 
 def nodes(kind):
-    return [(name, node) for name, tree in TREES.items() for node in ast.walk(tree) if isinstance(node, kind)]
+    return [(module, node) for module, tree in TREES.items() for node in ast.walk(tree) if isinstance(node, kind)]
 
 
-def functions_with_names():
-    """Each function with the names of its parameters and local variables."""
-    for name, function in nodes(ast.FunctionDef):
-        arguments = function.args
-        found = {argument.arg for argument in arguments.posonlyargs + arguments.args + arguments.kwonlyargs}
-        for node in ast.walk(function):
-            if isinstance(node, ast.Name) and isinstance(node.ctx, ast.Store):
-                found.add(node.id)
-        yield name, function, found
+def imported(module):
+    return [node for node in ast.walk(TREES[module]) if isinstance(node, ast.ImportFrom)]
+
+
+def bound(module):
+    """The names that a file binds at module level, imports included."""
+    found = []
+    for node in TREES[module].body:
+        if isinstance(node, ast.ImportFrom):
+            found += [alias.asname or alias.name for alias in node.names]
+        elif isinstance(node, (ast.FunctionDef, ast.ClassDef)):
+            found.append(node.name)
+        elif isinstance(node, ast.Assign):
+            found += [target.id for target in node.targets]
+        elif isinstance(node, ast.AnnAssign):
+            found.append(node.target.id)
+    return found
+
+
+def local_names(function):
+    """The names of the parameters and the local variables of a function."""
+    arguments = function.args
+    found = {argument.arg for argument in arguments.posonlyargs + arguments.args + arguments.kwonlyargs}
+    return found | {
+        node.id for node in ast.walk(function) if isinstance(node, ast.Name) and isinstance(node.ctx, ast.Store)
+    }
 
 
 class FilesTest(unittest.TestCase):
     def test_names_of_files(self):
-        for name in FILES:
-            self.assertRegex(name, r"^(__init__|[a-z][a-z0-9_]*)\.py$")
+        for module, path in FILES.items():
+            self.assertRegex(os.path.basename(path), r"^[a-z0-9_]+\.py$")
+            self.assertRegex(module, r"^clockwright(\.[a-z][a-z0-9_]*)*(\.__main__)?$")
 
     def test_characters_and_sizes(self):
-        for name in FILES:
-            text = source(name)
-            self.assertTrue(set(text) <= set(map(chr, range(32, 127))) | {"\n"}, name)
-            self.assertTrue(text.endswith("\n"), name)
+        for module, text in TEXTS.items():
+            self.assertTrue(set(text) <= set(map(chr, range(32, 127))) | {"\n"}, module)
             lines = text.splitlines()
-            self.assertLess(len(lines), 400, name)
-            self.assertLessEqual(max(map(len, lines)), 120, name)
+            self.assertLessEqual(len(lines), 399, module)
+            self.assertLessEqual(max(map(len, lines), default=0), 120, module)
 
     def test_sizes_of_functions(self):
-        for name, function in nodes(ast.FunctionDef):
-            self.assertLessEqual(function.end_lineno - function.lineno + 1, 40, (name, function.name))
+        for module, function in nodes(ast.FunctionDef):
+            self.assertLessEqual(function.end_lineno - function.lineno + 1, 40, (module, function.name))
 
     def test_words_that_are_not_used(self):
-        for name, node in nodes(ast.AST):
+        for module, node in nodes(ast.AST):
             for field in ("id", "attr", "arg", "name"):
-                self.assertNotIn(getattr(node, field, None), WORDS, name)
-        for name in FILES:
-            self.assertNotRegex(source(name), "_wall|_WallAttr|dataclass|overload|contextmanager", name)
+                self.assertNotIn(getattr(node, field, None), WORDS, module)
 
-    def test_interface(self):
-        for module, words in DOCUMENTED.items():
-            defined = [node.name for node in TREES[module + ".py"].body if isinstance(node, (ast.FunctionDef, ast.ClassDef))]
-            for word in words.split():
-                self.assertIn(word, defined, module)
-
-    def test_docstrings(self):
-        for name, tree in TREES.items():
-            self.assertTrue(ast.get_docstring(tree), name)
-            for node in tree.body:
-                if isinstance(node, (ast.FunctionDef, ast.ClassDef)) and not node.name.startswith("_"):
-                    self.assertTrue(ast.get_docstring(node), (name, node.name))
+    def test_names(self):
+        pattern = r"^(_|_?[A-Za-z][A-Za-z0-9_]*|__[a-z]+__)$"
+        for module, node in nodes(ast.AST):
+            for field in ("id", "attr", "arg", "name"):
+                word = getattr(node, field, None)
+                if isinstance(word, str) and not isinstance(node, ast.alias):
+                    self.assertRegex(word, pattern, module)
 
 
 class ModulesTest(unittest.TestCase):
+    def test_the_interface_is_defined_in_its_files(self):
+        for file, words in DOCUMENTED.items():
+            body = TREES["clockwright." + file].body
+            defined = [node.name for node in body if isinstance(node, (ast.FunctionDef, ast.ClassDef))]
+            for word in words.split():
+                self.assertIn(word, defined, file)
+
     def test_imports(self):
-        self.assertEqual(nodes(ast.Import), [])
-        for name, node in nodes(ast.ImportFrom):
-            self.assertEqual((node.level, node.module.split(".")[0]), (0, "clockwright"), name)
-            home = TREES[node.module.split(".")[1] + ".py"]
-            defined = [part.name for part in home.body if isinstance(part, (ast.FunctionDef, ast.ClassDef))]
+        for module, node in nodes(ast.Import):
+            self.assertEqual((module, [alias.name for alias in node.names]), ("clockwright.__main__", ["sys"]))
+        for module, node in nodes(ast.ImportFrom):
+            self.assertEqual(node.level, 0, module)
+            known = set(bound(node.module)) if node.module in TREES else LIBRARY.get(node.module, set())
             for alias in node.names:
-                self.assertIsNone(alias.asname)
-                self.assertIn(alias.name, defined, name)
+                self.assertIn(alias.name, known, module)
 
     def test_imports_have_no_cycles(self):
-        left = {name: {node.module.split(".")[1] + ".py" for home, node in nodes(ast.ImportFrom) if home == name} for name in FILES}
+        left = {module: {node.module for node in imported(module)} for module in TREES}
         while left:
-            free = [name for name in left if not left[name] & set(left)]
+            free = [module for module in left if not left[module] & set(left)]
             self.assertTrue(free, left)
-            for name in free:
-                del left[name]
+            for module in free:
+                del left[module]
 
     def test_each_name_is_bound_once(self):
-        for name, tree in TREES.items():
-            bound = []
+        for module in TREES:
+            names = bound(module)
+            self.assertEqual(len(names), len(set(names)), module)
+
+    def test_what_stands_at_module_level(self):
+        allowed = (ast.ImportFrom, ast.FunctionDef, ast.ClassDef, ast.Assign, ast.AnnAssign)
+        for module, tree in TREES.items():
             for node in tree.body:
-                if isinstance(node, ast.ImportFrom):
-                    bound += [alias.name for alias in node.names]
-                elif isinstance(node, ast.Assign):
-                    bound += [target.id for target in node.targets]
-                elif isinstance(node, (ast.FunctionDef, ast.ClassDef)):
-                    bound.append(node.name)
-                else:
-                    self.assertIsInstance(node, ast.Expr, name)
-                    self.assertIsInstance(node.value, ast.Constant, name)
-            self.assertEqual(len(bound), len(set(bound)), name)
-
-    def test_imports_are_used(self):
-        for name, node in nodes(ast.ImportFrom):
-            used = {inner.id for inner in ast.walk(TREES[name]) if isinstance(inner, ast.Name)}
-            for alias in node.names:
-                self.assertIn(alias.name, used, name)
-
-    def test_module_level_names_are_used(self):
-        for name, tree in TREES.items():
-            used = {node.id for node in ast.walk(tree) if isinstance(node, ast.Name) and isinstance(node.ctx, ast.Load)}
-            for node in tree.body:
-                if isinstance(node, ast.Assign):
-                    self.assertIn(node.targets[0].id, used, name)
-                if isinstance(node, ast.FunctionDef) and node.name.startswith("_"):
-                    self.assertIn(node.name, used, name)
+                if isinstance(node, ast.Expr):
+                    self.assertIsInstance(node.value, ast.Constant, module)
+                elif not module.endswith("__main__"):
+                    self.assertIsInstance(node, allowed, module)
 
 
-class StatementsTest(unittest.TestCase):
-    def test_statements(self):
-        for name, node in nodes(ast.stmt):
-            self.assertIsInstance(node, STATEMENTS, (name, node.lineno))
+class CodeTest(unittest.TestCase):
+    def test_what_is_not_allowed_at_all(self):
+        for module, node in nodes(BARRED):
+            self.fail((module, type(node).__name__))
+        for module, node in nodes(ast.Constant):
+            self.assertNotIsInstance(node.value, (float, complex), (module, node.lineno))
 
-    def test_no_decorators_stars_lambdas_or_annotations(self):
-        for name, node in nodes((ast.Lambda, ast.AnnAssign, ast.Set, ast.SetComp, ast.Yield, ast.YieldFrom, ast.NamedExpr, ast.Await)):
-            self.fail((name, node.lineno))
-        for name, node in nodes((ast.FunctionDef, ast.ClassDef)):
-            self.assertEqual(node.decorator_list, [], name)
-        for name, node in nodes(ast.arg):
-            self.assertIsNone(node.annotation, name)
-        for name, node in nodes(ast.FunctionDef):
-            self.assertIsNone(node.args.vararg or node.args.kwarg or node.returns, name)
+    def test_builtins(self):
+        for module, node in nodes(ast.Name):
+            if hasattr(builtins, node.id) and node.id not in LOCAL_BUILTINS:
+                self.assertIn(node.id, BUILTINS, (module, node.lineno))
 
-    def test_functions_are_not_nested(self):
-        for name, function in nodes(ast.FunctionDef):
-            inner = [node for node in ast.walk(function) if isinstance(node, ast.FunctionDef)]
-            self.assertEqual(inner, [function], name)
+    def test_no_local_name_hides_another_one(self):
+        for module, function in nodes(ast.FunctionDef):
+            taken = {alias.asname or alias.name for node in imported(module) for alias in node.names}
+            taken |= {node.name for node in TREES[module].body if isinstance(node, ast.ClassDef)}
+            found = local_names(function)
+            self.assertEqual(found & taken, set(), (module, function.name))
+            hidden = {word for word in found if hasattr(builtins, word)} - LOCAL_BUILTINS
+            self.assertEqual(hidden, set(), (module, function.name))
 
-    def test_special_methods(self):
-        for name, node in nodes(ast.FunctionDef):
-            if node.name.startswith("__"):
-                self.assertIn(node.name, SPECIAL, name)
-
-    def test_handlers_name_own_errors(self):
-        own = set(DOCUMENTED["errors"].split())
-        for name, node in nodes(ast.ExceptHandler):
+    def test_handlers_name_errors(self):
+        for module, node in nodes(ast.ExceptHandler):
             kinds = node.type.elts if isinstance(node.type, ast.Tuple) else [node.type]
-            self.assertTrue({kind.id for kind in kinds} <= own, name)
+            for kind in kinds:
+                self.assertIsInstance(kind, ast.Name, module)
+                self.assertNotIn(kind.id, ("Exception", "BaseException", "TypeError", "AttributeError", "RuntimeError"), module)
 
     def test_errors_are_created_on_the_spot(self):
-        own = set(DOCUMENTED["errors"].split()) - {"Refused"}
-        for name, node in nodes(ast.Raise):
-            self.assertIn(node.exc.func.id, own, name)
-            self.assertEqual((len(node.exc.args), node.exc.keywords), (1, []), name)
+        for module, node in nodes(ast.Raise):
+            if node.exc is not None:
+                self.assertIsInstance(node.exc, ast.Call, (module, node.lineno))
+                self.assertIsInstance(node.exc.func, ast.Name, (module, node.lineno))
 
-
-class ExpressionsTest(unittest.TestCase):
-    def test_builtins(self):
-        for name, node in nodes(ast.Name):
-            if hasattr(builtins, node.id):
-                self.assertIn(node.id, BUILTINS, (name, node.lineno))
-                self.assertIsInstance(node.ctx, ast.Load, (name, node.lineno))
-
-    def test_no_name_hides_another_one(self):
-        for name, function, found in functions_with_names():
-            taken = {alias.name for home, node in nodes(ast.ImportFrom) if home == name for alias in node.names}
-            taken |= {node.name for node in TREES[name].body if isinstance(node, ast.ClassDef)}
-            self.assertEqual(found & taken, set(), (name, function.name))
-            self.assertEqual([word for word in found if hasattr(builtins, word)], [], (name, function.name))
-            for word in found | {function.name}:
-                self.assertRegex(word, r"^(_|_?[A-Za-z][A-Za-z0-9_]*|__init__)$")
-
-    def test_called_methods(self):
-        own = {node.name for _, node in nodes(ast.FunctionDef)}
-        for name, node in nodes(ast.Call):
-            if isinstance(node.func, ast.Attribute):
-                self.assertTrue(node.func.attr in METHODS or node.func.attr in own, (name, node.lineno))
-                if node.func.attr in METHODS:
-                    self.assertEqual(node.keywords, [], (name, node.lineno))
-
-    def test_own_methods_and_attributes_have_names_of_their_own(self):
-        builtin = {word for kind in (str, int, list, dict, set, bytes) for word in dir(kind) if not word.startswith("__")}
-        for name, node in nodes(ast.ClassDef):
-            methods = {part.name for part in node.body if isinstance(part, ast.FunctionDef)}
-            attributes = {part.attr for part in ast.walk(node) if isinstance(part, ast.Attribute) and isinstance(part.ctx, ast.Store)}
-            self.assertEqual((methods | attributes) & builtin, set(), (name, node.name))
-            self.assertEqual(methods & attributes, set(), (name, node.name))
-
-    def test_identity(self):
-        for name, node in nodes(ast.Compare):
+    def test_numbers_and_strings_are_not_compared_by_identity(self):
+        for module, node in nodes(ast.Compare):
             for operator, side in zip(node.ops, node.comparators):
-                if isinstance(operator, (ast.Is, ast.IsNot)):
-                    self.assertIsInstance(side, ast.Constant, (name, node.lineno))
-
-    def test_numbers(self):
-        for name, node in nodes(ast.Constant):
-            self.assertNotIsInstance(node.value, (float, complex, bytes), (name, node.lineno))
-        for name, node in nodes(ast.BinOp):
-            self.assertNotIsInstance(node.op, (ast.Div, ast.MatMult), (name, node.lineno))
-            if isinstance(node.op, ast.Pow):
-                self.assertIsInstance(node.right, ast.Constant, (name, node.lineno))
+                if isinstance(operator, (ast.Is, ast.IsNot)) and isinstance(side, ast.Constant):
+                    self.assertIn(side.value, (None, True, False), (module, node.lineno))
 
     def test_strings(self):
-        for name, node in nodes(ast.Constant):
+        for module, node in nodes(ast.Constant):
             if isinstance(node.value, str):
-                self.assertNotIn("%", node.value, (name, node.lineno))
-                self.assertIsNone(re.search(r"\._{1,2}$", node.value), (name, node.lineno))
-
-    def test_generator_expressions_stand_alone_in_a_call(self):
-        allowed = ("list", "tuple", "dict", "sorted", "sum", "min", "max", "any", "all")
-        fine = [node.args[0] for _, node in nodes(ast.Call) if isinstance(node.func, ast.Name) and node.func.id in allowed and len(node.args) == 1]
-        for name, node in nodes(ast.GeneratorExp):
-            self.assertTrue(any(node is other for other in fine), (name, node.lineno))
-
-    def test_iterators_are_used_at_once(self):
-        fine = []
-        for _, node in nodes((ast.For, ast.comprehension)):
-            fine.append(node.iter)
-        for name, node in nodes(ast.Call):
-            if isinstance(node.func, ast.Name) and node.func.id in ("zip", "enumerate", "reversed", "range"):
-                self.assertTrue(any(node is other for other in fine), (name, node.lineno))
+                self.assertIsNone(re.search(r"\._{1,2}$", node.value), (module, node.lineno))
 
 
 if __name__ == "__main__":

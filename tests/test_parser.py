@@ -246,7 +246,9 @@ class LevelsTest(unittest.TestCase):
     def test_levels_20_and_21(self):
         for name, (before, after) in self.KINDS.items():
             self.assertIsNone(malformed(nested(before, after, 19)), name)
+            self.assertIsNone(failure(read, nested(before, after, 19)), name)
             self.assertEqual(malformed(nested(before, after, 20)), ("Unbounded", "depth"), name)
+            self.assertEqual(failure(read, nested(before, after, 20)), ("Unbounded", "depth"), name)
 
     def test_mixed_levels(self):
         texts = [("(~", ")"), ("f({", "})"), ("a[0 ? ", ": 0]")]
@@ -273,6 +275,8 @@ class LevelsTest(unittest.TestCase):
 
     def test_targets(self):
         self.assertIsNone(failure(target, nested("{", "}", 19)))
+        self.assertIsNone(failure(target, nested("{a, ", "}", 19)))
+        self.assertEqual(failure(target, nested("{a, ", "}", 20)), ("Unbounded", "depth"))
         self.assertEqual(failure(target, nested("{", "}", 20)), ("Unbounded", "depth"))
         self.assertEqual(failure(target, "{" * 20), ("Unbounded", "depth"))
         self.assertEqual(failure(target, "{" * 19), ("Malformed", 19))
@@ -308,7 +312,6 @@ class DepthsTest(unittest.TestCase):
         deep = " + ".join("a" * 31)
         self.assertEqual(malformed(f"({deep}"), ("Unbounded", "depth"))
         self.assertEqual(malformed(f"{deep} )"), ("Unbounded", "depth"))
-        self.assertEqual(malformed(f"{deep} + )"), ("Unbounded", "depth"))
         self.assertEqual(malformed(" + ".join("a" * 30) + " + )"), ("Malformed", 120))
         self.assertEqual(malformed(f"( ; {deep}"), ("Malformed", 2))
 

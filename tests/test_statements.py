@@ -168,6 +168,12 @@ class LevelsTest(unittest.TestCase):
             self.assertIsNone(failure(statement, "if a { " * 19 + text + "}" * 19), text)
             self.assertEqual(failure(statement, text.replace(deep, f"({deep})")), ("Unbounded", "depth"), text)
 
+    def test_targets_in_statements_start_at_level_1(self):
+        deep = "{" * 19 + "a" + "}" * 19
+        for sign in ("=", "<-"):
+            self.assertIsNone(failure(statement, "if a { " * 19 + f"{deep} {sign} b;" + "}" * 19))
+            self.assertEqual(failure(statement, f"{{{deep}}} {sign} b;"), ("Unbounded", "depth"))
+
     def test_depth_counts_expressions_alone(self):
         deep = " + ".join("a" * 30)
         text = "if a { " * 19 + f"a[{deep}] = {deep};" + "}" * 19

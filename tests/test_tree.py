@@ -139,6 +139,7 @@ class WritesTest(unittest.TestCase):
         self.assertEqual(writes(statement("if a {}")), [])
         self.assertEqual(writes(statement("if a { c = 0; } else { b <- 0; c = 1; }")), ["c", "b"])
         self.assertEqual(writes(statement("case a { 1: { d = 0; } 2: { if b { c = 0; } } else { d = 1; a = 0; } }")), ["d", "c", "a"])
+        self.assertEqual(writes(statement("if a { case b { 1: { c = 0; } else { if d { e <- 0; } loop i in 0..1 { f = 0; } } } }")), ["c", "e", "f"])
         self.assertEqual(writes(statement("loop i in l..h { x[i] = a; loop j in 0..2 { y = i; } }")), ["x", "y"])
 
 
