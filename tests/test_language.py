@@ -43,6 +43,20 @@ DOCUMENTED = {
     "printer": "show_expression show_target show_statement show_units",
     "design": "Design",
     "flat": "elaborate design_of",
+    "evaluate": "value places store assign run_when run_tick unknown",
+    "events": "Choices Ready order",
+    "simulate": "Simulation simulate",
+    "graph": "Graph negated initial_state node_values step run run_resets compact",
+    "circuits": "text_bits fit add_bits subtract_bits multiply_bits negate_bits less_than less_or_equal equal_bits "
+                "shift_left shift_right reduce_and reduce_or reduce_xor choose_bits pick_bit store_bit expression_bits",
+    "drivers": "target_bits expression_reads block_reads assigned_names check_sources build_order",
+}
+METHODS = {
+    "Design": "inputs outputs registers function_widths",
+    "Choices": "choose",
+    "Ready": "add take waiting __len__",
+    "Simulation": "settle edge run_cycle",
+    "Graph": "input_literal register_literal conjunction disjunction exclusive choice node_count set_next set_outputs",
 }
 
 
@@ -138,6 +152,13 @@ class ModulesTest(unittest.TestCase):
             defined = [node.name for node in body if isinstance(node, (ast.FunctionDef, ast.ClassDef))]
             for word in words.split():
                 self.assertIn(word, defined, file)
+
+    def test_methods_are_defined_in_their_classes(self):
+        classes = {node.name: node for _, node in nodes(ast.ClassDef)}
+        for name, words in METHODS.items():
+            defined = [node.name for node in classes[name].body if isinstance(node, ast.FunctionDef)]
+            for word in words.split():
+                self.assertIn(word, defined, name)
 
     def test_imports(self):
         for module, node in nodes(ast.Import):
