@@ -7,13 +7,8 @@ from clockwright.logic import is_known
 from clockwright.tree import children, writes, written_by
 
 
-def _bits_between(design, name, low, high):
-    top = min(high, design.width[name] - 1)
-    return [(name, index) for index in range(low, top + 1)]
-
-
 def _bits_of_name(design, name):
-    return _bits_between(design, name, 0, design.width[name] - 1)
+    return [(name, index) for index in range(design.width[name])]
 
 
 def _has_known_index(tree):
@@ -21,13 +16,17 @@ def _has_known_index(tree):
 
 
 def _named_bits(design, tree):
-    """Return the bits of a name, a part, or a pick with a known literal index."""
+    """Return the bits of a name, a part, or a pick with a known literal index.
+
+    There is none if the index is too great.
+    """
+    bits = _bits_of_name(design, tree[1])
     if tree[0] == "part":
-        return _bits_between(design, tree[1], tree[3], tree[2])
+        return bits[tree[3]:tree[2] + 1]
     if tree[0] == "pick":
         index = int(tree[2][1], 2)
-        return _bits_between(design, tree[1], index, index)
-    return _bits_of_name(design, tree[1])
+        return bits[index:index + 1]
+    return bits
 
 
 def target_bits(design, target):

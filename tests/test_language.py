@@ -50,6 +50,11 @@ DOCUMENTED = {
     "circuits": "text_bits fit add_bits subtract_bits multiply_bits negate_bits less_than less_or_equal equal_bits "
                 "shift_left shift_right reduce_and reduce_or reduce_xor choose_bits pick_bit store_bit expression_bits",
     "drivers": "target_bits expression_reads block_reads assigned_names check_sources build_order",
+    "synth": "Machine bit_names Builder synthesize",
+    "table": "full variable value_at complement cofactor support connect shrink",
+    "cuts": "cuts cut_table cone private_cone",
+    "rewrite": "table_cost build_tree gain is_irreducible rewritten",
+    "cells": "Cell Library read_library library_text",
 }
 METHODS = {
     "Design": "inputs outputs registers function_widths",
@@ -57,6 +62,9 @@ METHODS = {
     "Ready": "add take waiting __len__",
     "Simulation": "settle edge run_cycle",
     "Graph": "input_literal register_literal conjunction disjunction exclusive choice node_count set_next set_outputs",
+    "Builder": "run_block call",
+    "Cell": "output",
+    "Library": "cell_named inverter is_complete bindings",
 }
 
 
@@ -231,6 +239,36 @@ class CodeTest(unittest.TestCase):
             for operator, side in zip(node.ops, node.comparators):
                 if isinstance(operator, (ast.Is, ast.IsNot)) and isinstance(side, ast.Constant):
                     self.assertIn(side.value, (None, True, False), (module, node.lineno))
+
+    def test_sets_stand_only_in_sorted_and_len(self):
+        for module, tree in TREES.items():
+            allowed = [node.args[0] for node in ast.walk(tree) if isinstance(node, ast.Call)
+                       and isinstance(node.func, ast.Name) and node.func.id in ("sorted", "len")]
+            for node in ast.walk(tree):
+                if isinstance(node, ast.Call) and isinstance(node.func, ast.Name) and node.func.id in ("set", "frozenset"):
+                    self.assertIn(node, allowed, (module, node.lineno))
+                self.assertNotIsInstance(node, (ast.Set, ast.SetComp), module)
+
+    def test_lists_are_not_sorted_in_place(self):
+        for module, node in nodes(ast.Attribute):
+            self.assertNotEqual(node.attr, "sort", (module, node.lineno))
+
+    def test_tables_of_functions_are_called_by_a_name(self):
+        for module, node in nodes(ast.Call):
+            self.assertIsInstance(node.func, (ast.Name, ast.Attribute), (module, node.lineno))
+
+    def test_exponents_are_literals(self):
+        for module, node in nodes(ast.BinOp):
+            if isinstance(node.op, ast.Pow):
+                self.assertIsInstance(node.right, ast.Constant, (module, node.lineno))
+
+    def test_loops_do_not_change_what_they_go_over(self):
+        changing = ("append", "extend", "insert", "pop", "remove", "clear", "update", "setdefault", "reverse", "add")
+        for module, loop in nodes(ast.For):
+            names = {ast.unparse(node) for node in ast.walk(loop.iter) if isinstance(node, (ast.Name, ast.Attribute))}
+            for node in [inner for line in loop.body for inner in ast.walk(line)]:
+                if isinstance(node, ast.Attribute) and node.attr in changing:
+                    self.assertNotIn(ast.unparse(node.value), names - {"self"}, (module, node.lineno))
 
     def test_strings(self):
         for module, node in nodes(ast.Constant):

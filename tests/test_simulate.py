@@ -29,6 +29,10 @@ class StartTest(unittest.TestCase):
         state = simulation_of("wire a[4]; wire b[2]; out c; wire d[3]; {a[3:2], b} = 5; a[0] = 1; d = 1;").state
         self.assertEqual(state, {"a": "xxzx", "b": "xx", "c": "z", "d": "xxx"})
 
+    def test_wide_signals(self):
+        state = simulation_of("in a[64]; wire b[64]; out c[64]; wire d[64]; b = a; c[62:0] = a; {d[0], d[63:1]} = 1;").state
+        self.assertEqual(state, {"a": "x" * 64, "b": "x" * 64, "c": "z" + "x" * 63, "d": "x" * 64})
+
     def test_wires_of_instances(self):
         design = design_with("use u = s()();", "unit s() in a; out b; out c[2]; c[1] = b; end")
         self.assertEqual(Simulation(design).state, {"u.a": "z", "u.b": "z", "u.c": "xz"})
