@@ -1,15 +1,13 @@
 """Libraries of cells, and their texts."""
 
 from clockwright.errors import Malformed, Twice, Unbounded, Uncovered, Unknown
+from clockwright.lines import consists_of, is_cell_name, is_number, lines_of
 from clockwright.table import connect, value_at
 
 MAX_CELLS = 32
-MAX_NAME = 12
 MAX_TIME = 99
 MAX_AREA = 9999
 
-DIGITS = "0123456789"
-LETTERS = "abcdefghijklmnopqrstuvwxyzABCDEFGHIJKLMNOPQRSTUVWXYZ"
 # How many pins a cell with so many values has.
 PINS = {2: 1, 4: 2, 8: 3, 16: 4}
 
@@ -30,7 +28,7 @@ class Cell:
         return value_at(self.table, row)
 
 
-def _ways(count):
+def pin_ways(count):
     """Return all ways to give each pin a literal of a variable of its own, in ascending order."""
     found = [()]
     for _ in range(count):
@@ -69,10 +67,10 @@ class Library:
 
     def bindings(self, table, count):
         """Return all bindings of a table, in ascending order."""
-        ways = _ways(count)
+        found = pin_ways(count)
         return [
             (index, way) for index, cell in enumerate(self.cells) if cell.pins == count
-            for way in ways if connect(cell.table, way, count) == table
+            for way in found if connect(cell.table, way, count) == table
         ]
 
 
@@ -88,34 +86,19 @@ def _is_gate(cell):
     return cell.pins == 2 and sum(_values_of(cell)) in (1, 3)
 
 
-def _consists_of(word, characters):
-    return all([character in characters for character in word])
-
-
-def _is_number(word, low, high):
-    """Tell whether a word writes a number from low to high, which is not negative."""
-    if not 1 <= len(word) <= len(str(high)) or not _consists_of(word, DIGITS):
-        return False
-    return str(int(word)) == word and low <= int(word) <= high
-
-
-def _is_cell_name(word):
-    return 1 <= len(word) <= MAX_NAME and word[0] in LETTERS and _consists_of(word, LETTERS + DIGITS)
-
-
 def _is_flop_line(words):
     if len(words) != 3 or words[0] != "flop":
         return False
-    return _is_number(words[1], 1, MAX_TIME) and _is_number(words[2], 0, MAX_TIME)
+    return is_number(words[1], 1, MAX_TIME) and is_number(words[2], 0, MAX_TIME)
 
 
 def _is_cell_line(words):
-    if len(words) < 4 or words[0] != "cell" or not _is_cell_name(words[1]):
+    if len(words) < 4 or words[0] != "cell" or not is_cell_name(words[1]):
         return False
-    if len(words[2]) not in PINS or not _consists_of(words[2], "01") or not _is_number(words[3], 1, MAX_AREA):
+    if len(words[2]) not in PINS or not consists_of(words[2], "01") or not is_number(words[3], 1, MAX_AREA):
         return False
     delays = words[4:]
-    return len(delays) == PINS[len(words[2])] and all([_is_number(word, 1, MAX_TIME) for word in delays])
+    return len(delays) == PINS[len(words[2])] and all([is_number(word, 1, MAX_TIME) for word in delays])
 
 
 def _cell_of(words):
@@ -125,27 +108,11 @@ def _cell_of(words):
     return Cell(words[1], table, len(delays), int(words[3]), delays)
 
 
-def _lines(text):
-    """Return the pairs of the index and the words of each line.
-
-    What stands behind the last newline has no words, as no line of the right form has.
-    """
-    lines = text.split("\n")
-    found = []
-    at = 0
-    for line in lines[:-1]:
-        found.append((at, line.split(" ")))
-        at += len(line) + 1
-    if at < len(text) or not found:
-        found.append((at, []))
-    return found
-
-
 def read_library(text):
     """Return the library that a text writes."""
     cells = []
     seen = {}
-    lines = _lines(text)
+    lines = lines_of(text)
     if not _is_flop_line(lines[0][1]):
         raise Malformed(0)
     for at, words in lines[1:]:

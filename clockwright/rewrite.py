@@ -66,7 +66,8 @@ def _joined(graph, chosen, other, constant):
     return graph.disjunction(negated(chosen), other)
 
 
-def _built(graph, table, literals, known):
+def known_tree(graph, table, literals, known):
+    """Do what build_tree does; the dict known keeps the costs of tables for further calls."""
     count = len(literals)
     _, way, index = _best(table, count, known)
     if way is None:
@@ -75,18 +76,18 @@ def _built(graph, table, literals, known):
     low = cofactor(table, count, index, 0)
     high = cofactor(table, count, index, 1)
     if way == LOW_IS_CONSTANT:
-        return _joined(graph, chosen, _built(graph, high, literals, known), low)
+        return _joined(graph, chosen, known_tree(graph, high, literals, known), low)
     if way == HIGH_IS_CONSTANT:
-        return _joined(graph, negated(chosen), _built(graph, low, literals, known), high)
+        return _joined(graph, negated(chosen), known_tree(graph, low, literals, known), high)
     if way == OPPOSITE:
-        return graph.exclusive(chosen, _built(graph, low, literals, known))
-    one = _built(graph, high, literals, known)
-    return graph.choice(chosen, one, _built(graph, low, literals, known))
+        return graph.exclusive(chosen, known_tree(graph, low, literals, known))
+    one = known_tree(graph, high, literals, known)
+    return graph.choice(chosen, one, known_tree(graph, low, literals, known))
 
 
 def build_tree(graph, table, literals):
     """Add at most as many ANDs as the table costs, and return a literal with its value."""
-    return _built(graph, table, literals, {})
+    return known_tree(graph, table, literals, {})
 
 
 def gain(graph, node, leaves):
@@ -161,7 +162,7 @@ def _replaced(graph, replacements, known):
         node = len(built)
         if node in anew:
             literals = [built[leaf] for leaf in anew[node].leaves]
-            built.append(_built(result, anew[node].table, literals, known))
+            built.append(known_tree(result, anew[node].table, literals, known))
         elif node in left_out:
             built.append(None)
         else:

@@ -55,6 +55,11 @@ DOCUMENTED = {
     "cuts": "cuts cut_table cone private_cone",
     "rewrite": "table_cost build_tree gain is_irreducible rewritten",
     "cells": "Cell Library read_library library_text",
+    "netlist": "Netlist run_netlist netlist_graph netlist_text read_netlist",
+    "cover": "roots parts graph_price cover",
+    "timing": "arrivals ends slacks least_period critical_path",
+    "delays": "run_delayed changes",
+    "clauses": "term_of graph_clauses is_true all_true",
 }
 METHODS = {
     "Design": "inputs outputs registers function_widths",
@@ -65,6 +70,7 @@ METHODS = {
     "Builder": "run_block call",
     "Cell": "output",
     "Library": "cell_named inverter is_complete bindings",
+    "Netlist": "net_count first_register first_gate area initial_state net_values step",
 }
 
 
