@@ -20,6 +20,11 @@ def graph_clauses(graph):
     return found
 
 
+def clauses_with(graph, literal):
+    """Return the clauses of a graph, and behind them the one that says that a literal is 1."""
+    return graph_clauses(graph) + [(term_of(literal),)]
+
+
 def _holds(term, assignment):
     worth = assignment[abs(term) - 1]
     return worth == 1 if term > 0 else worth == 0

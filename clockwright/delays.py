@@ -59,8 +59,9 @@ class Waves:
     def advance(self):
         """Go on to the next time at which something comes; return triples (net, time, value) of what changed."""
         time = self.time_of_next()
+        arrived = self._arrive(time)
         changed = []
-        for net, worth in self._arrive(time).items():
+        for net, worth in arrived.items():
             if worth != self.nets[net]:
                 self.nets[net] = worth
                 changed.append((net, time, worth))

@@ -60,6 +60,12 @@ DOCUMENTED = {
     "timing": "arrivals ends slacks least_period critical_path",
     "delays": "run_delayed changes",
     "clauses": "term_of graph_clauses is_true all_true",
+    "refute": "check_step check_refutation",
+    "solver": "solve",
+    "unroll": "copy_into difference unroll rows_of",
+    "certify": "are_classes joint certify",
+    "compare": "refine compare",
+    "flow": "Made build stimulus_rows output_vectors run_made run_timed",
 }
 METHODS = {
     "Design": "inputs outputs registers function_widths",
