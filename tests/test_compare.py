@@ -181,6 +181,17 @@ class SmallTest(unittest.TestCase):
         self.check(one, two, ("equal", ([], steps)), limit=3)
         self.check(one, two, NOTHING, limit=2)
 
+    def test_giving_up_in_an_early_cycle(self):
+        # the first outputs are two forms of the exclusive, and the second ones differ from the second cycle on
+        one, two = Graph(2, [0]), Graph(2, [0])
+        one.set_next(0, 2)
+        two.set_next(0, 3)
+        one.set_outputs([one.exclusive(2, 4), 6])
+        two.set_outputs([two.conjunction(two.conjunction(2, 4) ^ 1, two.conjunction(3, 5) ^ 1), 6])
+        for limit in range(4):
+            self.check(one, two, NOTHING, limit=limit)
+        self.check(one, two, ("different", [[0, 0], [0, 0]]), limit=4)
+
     def test_empty_graphs(self):
         self.check(Graph(0, []), Graph(0, []), ("equal", ([], [((), [0, 1])])))
         self.check(Graph(2, [1]), Graph(2, [0, 0]), ("equal", ([(-1, 1), (-1, 0), (-1, 0)], [((), [0, 1])])))

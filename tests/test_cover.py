@@ -158,6 +158,8 @@ class PricesTest(unittest.TestCase):
     def check_values(self, graph, netlist):
         self.assertEqual((netlist.inputs, len(netlist.outputs)), (graph.inputs, len(graph.outputs)))
         self.assertEqual([initial for _, initial in netlist.registers], [initial for _, initial in graph.registers])
+        for index, pins in netlist.gates:
+            self.assertEqual((type(pins), len(pins)), (tuple, netlist.library.cells[index].pins))
         for row in bits(graph.inputs):
             for state in bits(len(graph.registers)):
                 self.assertEqual(netlist.step(row, state), step(graph, row, state))

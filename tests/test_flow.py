@@ -1,14 +1,15 @@
+import inspect
 import unittest
 
 from clockwright.cells import library_text
 from clockwright.certify import certify
 from clockwright.compare import compare
 from clockwright.cover import cover
+from clockwright.delays import run_delayed
 from clockwright.design import Design
 from clockwright.flat import design_of
 from clockwright.flow import Made, build, output_vectors, run_made, run_timed, stimulus_rows
 from clockwright.netlist import Netlist, netlist_graph, netlist_text, run_netlist
-from clockwright.delays import run_delayed
 from clockwright.rewrite import rewritten
 from clockwright.simulate import simulate
 from clockwright.synth import Machine, synthesize
@@ -90,6 +91,11 @@ class BuildTest(unittest.TestCase):
             self.assertEqual(build(COUNTER, top="t", library=LIBRARY, arguments=(3,), limit=limit).certificate, expected)
         self.assertEqual(made.certificate, expected)
         self.assertIsNotNone(expected)
+
+    def test_values_that_may_be_left_out(self):
+        parameters = inspect.signature(build).parameters
+        self.assertEqual(list(parameters), ["text", "top", "library", "arguments", "cycles", "limit"])
+        self.assertEqual([parameters[name].default for name in ("arguments", "cycles", "limit")], [(), 4, 2000])
 
     def test_arguments(self):
         self.assertEqual(build(COUNTER, top="t", library=LIBRARY, arguments=(2,)).machine.registers, ["s[0]", "s[1]"])

@@ -1,10 +1,10 @@
 import random
 import unittest
 
-from clockwright.clauses import all_true
+from clockwright.clauses import all_true, graph_clauses, term_of
 from clockwright.refute import check_refutation
 from clockwright.solver import solve
-from drawn_graphs import bits
+from drawn_graphs import bits, drawn_graph
 from solver_by_the_document import plain_solve
 
 # All four of these are false for one pair of values of 2 and 3 each, unless 1 is true.
@@ -77,6 +77,13 @@ class SmallTest(unittest.TestCase):
         self.check(clauses, 4, ("model", [1, 1, 0, 0]), 3)
         self.check(clauses[:2], 3, ("model", [0, 1, 0]), 1)
 
+    def test_learned_clauses_are_looked_at(self):
+        clauses = [(2, 3), (-3, 5), (-3, -5), (1, -2, 4), (1, -2, -4)]
+        self.check(clauses, 5, ("model", [1, 1, 0, 0, 0]), 3)
+        # when 2 is decided again, the learned clause 7 is false before the terms behind 3 are handled
+        self.check(clauses + [(-2, -1, 6), (-2, -1, -6)], 6, ("refuted", [
+            ((2,), [0, 1, 2]), ((1,), [7, 3, 4]), ((2,), [7]), ((), [8, 9, 5, 6])]), 4)
+
     def test_the_latest_marked_decision_comes_first(self):
         clauses = [(1, 2, 3, 4), (1, 2, 3, -4), (-3, 5), (-3, -5), (-2, 6), (-2, -6), (-1, 7), (-1, -7)]
         self.check(clauses, 7, ("refuted", [
@@ -131,6 +138,14 @@ class DrawnTest(unittest.TestCase):
                 self.assertTrue(check_refutation(clauses, found))
                 self.check_limits(clauses, variables, found)
         self.assertGreater(min(seen.values()), 100)
+
+    def test_clauses_of_graphs(self):
+        for seed in range(120):
+            graph = drawn_graph(seed, inputs=5, registers=0, ands=25, outputs=4)
+            literals = [graph.exclusive(graph.outputs[0], graph.outputs[1]), graph.conjunction(*graph.outputs[2:])]
+            clauses = graph_clauses(graph) + [(term_of(literals[0]),), (term_of(literals[1]),)]
+            answer = solve(clauses, graph.node_count(), 300)
+            self.assertEqual(answer, plain_solve(clauses, graph.node_count(), 300))
 
     def check_limits(self, clauses, variables, steps):
         self.assertEqual(solve(clauses, variables, len(steps)), ("refuted", steps))

@@ -137,12 +137,12 @@ class UnrollTest(unittest.TestCase):
             self.assertEqual(fields(graph), (cycles, [], [], []))
 
     def test_the_calls_stand_in_order(self):
-        one = drawn_graph(3, inputs=2, registers=2, ands=6, outputs=2)
-        two = drawn_graph(4, inputs=2, registers=1, ands=6, outputs=2)
-        expected = Graph(6, [])
+        one = drawn_graph(3, inputs=3, registers=2, ands=6, outputs=2)
+        two = drawn_graph(4, inputs=3, registers=1, ands=6, outputs=2)
+        expected = Graph(9, [])
         states = [[initial for _, initial in graph.registers] for graph in (one, two)]
         for cycle in range(3):
-            inputs = [2 + 4 * cycle, 4 + 4 * cycle]
+            inputs = [2 + 6 * cycle, 4 + 6 * cycle, 6 + 6 * cycle]
             outputs = []
             for number, source in enumerate((one, two)):
                 found, states[number] = copy_into(expected, source, inputs, states[number])
