@@ -54,8 +54,8 @@ def _parts(graph, are_roots, node, most):
 
 
 def _distinct_parts(graph, are_roots, node):
-    found = {(len(part), *part): True for part in _parts(graph, are_roots, node, MOST_NODES)}
-    return [list(key[1:]) for key in sorted(found)]
+    found = {tuple(part): True for part in _parts(graph, are_roots, node, MOST_NODES)}
+    return [list(part) for _, part in sorted([(len(part), part) for part in found])]
 
 
 def parts(graph, node):
@@ -194,7 +194,7 @@ def _wanted_literals(prices):
     An AND that is no root has one reader alone, so one of its literals suffices.
     """
     found = {}
-    for node in reversed(range(first_and(prices.graph), prices.graph.node_count())):
+    for node in reversed(list(range(first_and(prices.graph), prices.graph.node_count()))):
         if prices.are_roots[node]:
             found[node] = 2 * node
         if node in found:
